@@ -159,26 +159,25 @@ func rightSides(x Scheme, a int64, b int64) Form {
 	return unitForm(row*x.Cols + col)
 }
 
-// LeftSide returns the left side of the equation of the places a, b and c, and ErrNone.
-func LeftSide(x Scheme, a int64, b int64, c int64) (int64, int64) {
+// sideAt returns what sides tells of the equation of the places a, b and c, and ErrNone.
+func sideAt(x Scheme, a int64, b int64, c int64, sides func(Scheme, int64, int64) Form) (int64, int64) {
 	if !IsScheme(x) {
 		return 0, ErrInvalid
 	}
 	if !isEquation(x, a, b, c) {
 		return 0, ErrRange
 	}
-	return int64(leftSides(x, a, b)[c]), ErrNone
+	return int64(sides(x, a, b)[c]), ErrNone
+}
+
+// LeftSide returns the left side of the equation of the places a, b and c, and ErrNone.
+func LeftSide(x Scheme, a int64, b int64, c int64) (int64, int64) {
+	return sideAt(x, a, b, c, leftSides)
 }
 
 // RightSide returns the right side of the equation of the places a, b and c, and ErrNone.
 func RightSide(x Scheme, a int64, b int64, c int64) (int64, int64) {
-	if !IsScheme(x) {
-		return 0, ErrInvalid
-	}
-	if !isEquation(x, a, b, c) {
-		return 0, ErrRange
-	}
-	return int64(rightSides(x, a, b)[c]), ErrNone
+	return sideAt(x, a, b, c, rightSides)
 }
 
 // firstWrong returns the places of the first equation that does not hold, or nothing.
