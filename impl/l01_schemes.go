@@ -52,12 +52,23 @@ type shape struct {
 
 func (s shape) places() int64 { return s.rows * s.cols }
 
-// shapesOf returns the shapes of the matrices X, Y and Z of a scheme.
-func shapesOf(x Scheme) [3]shape {
-	return [3]shape{{x.Rows, x.Inner}, {x.Inner, x.Cols}, {x.Rows, x.Cols}}
+// sizes are the numbers of rows, of inner ones and of columns that a scheme is for.
+type sizes [3]int64
+
+func sizesOf(x Scheme) sizes { return sizes{x.Rows, x.Inner, x.Cols} }
+
+// shapes returns the shapes of the matrices X, Y and Z.
+func (s sizes) shapes() [3]shape {
+	return [3]shape{{s[0], s[1]}, {s[1], s[2]}, {s[0], s[2]}}
 }
 
+func shapesOf(x Scheme) [3]shape { return sizesOf(x).shapes() }
+
 func factorsOf(q Product) [3]Form { return [3]Form{q.A, q.B, q.C} }
+
+func productOf(factors [3]Form) Product {
+	return Product{A: factors[0], B: factors[1], C: factors[2]}
+}
 
 func isPrime(p int64) bool { return p == 2 || p == 3 || p == 5 }
 
@@ -460,12 +471,15 @@ func SchemeText(x Scheme) (string, int64) {
 	if !IsScheme(x) {
 		return "", ErrInvalid
 	}
-	sizes := []string{strconv.FormatInt(x.Rows, 10), strconv.FormatInt(x.Inner, 10), strconv.FormatInt(x.Cols, 10)}
+	var counts []string
+	for _, size := range sizesOf(x) {
+		counts = append(counts, strconv.FormatInt(size, 10))
+	}
 	products := make([]string, len(x.Products))
 	for i, q := range x.Products {
 		products[i] = textOfProduct(x, q)
 	}
-	head := strconv.FormatInt(x.Prime, 10) + ":" + strings.Join(sizes, "x") + ";"
+	head := strconv.FormatInt(x.Prime, 10) + ":" + strings.Join(counts, "x") + ";"
 	return head + strings.Join(products, "+"), ErrNone
 }
 
@@ -506,7 +520,7 @@ func parseProduct(x Scheme, text string) (Product, bool) {
 		}
 		factors[which] = f
 	}
-	q := Product{A: factors[0], B: factors[1], C: factors[2]}
+	q := productOf(factors)
 	return q, isProductFor(x, q)
 }
 
