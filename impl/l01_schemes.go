@@ -350,12 +350,18 @@ func PlainProduct(p int64, left [][]int64, right [][]int64) ([][]int64, int64) {
 	return made, ErrNone
 }
 
-// rankOfForm returns the rank modulo p of the matrix of the numbers of a form.
-func rankOfForm(p int64, s shape, f Form) int64 {
+// rowsOfForm returns the matrix of the numbers of a form, with rows of their own memory.
+func rowsOfForm(s shape, f Form) [][]int64 {
 	rows := zeroMatrix(s)
 	for place := range s.places() {
 		rows[place/s.cols][place%s.cols] = int64(f[place])
 	}
+	return rows
+}
+
+// rankOfForm returns the rank modulo p of the matrix of the numbers of a form.
+func rankOfForm(p int64, s shape, f Form) int64 {
+	rows := rowsOfForm(s, f)
 	rank := int64(0)
 	for col := range s.cols {
 		pivot := slices.IndexFunc(rows[rank:], func(row []int64) bool { return row[col] != 0 })
@@ -419,14 +425,20 @@ func withProducts(x Scheme, lists ...[]Product) Scheme {
 	return x
 }
 
+// sortedProducts returns products in the order of their texts, in new memory.
+func sortedProducts(products []Product) []Product {
+	sorted := slices.Clone(products)
+	slices.SortFunc(sorted, compareProducts)
+	return sorted
+}
+
 // SortScheme returns the sorted scheme with the products of x, and ErrNone.
 func SortScheme(x Scheme) (Scheme, int64) {
 	if !IsScheme(x) {
 		return Scheme{}, ErrInvalid
 	}
-	sorted := withProducts(x, x.Products)
-	slices.SortFunc(sorted.Products, compareProducts)
-	return sorted, ErrNone
+	x.Products = sortedProducts(x.Products)
+	return x, ErrNone
 }
 
 // AddProduct returns x with q behind its products, and ErrNone. Errors: ErrInvalid also if q is no
