@@ -149,6 +149,8 @@ func TestScaledSchemesMakeTheSame(t *testing.T) {
 			wantCode(t, "MakeProduct", code, impl.ErrNone)
 			wantSame(t, fmt.Sprint("MakeProduct by the scaled ", x), made, expectMade(x, left, right))
 		}
+		// Schemes with the same left sides make the same of all matrices.
+		wantSame(t, fmt.Sprint("left sides of the scaled ", x), expectSums(scaled), expectSums(x))
 		equal, code := impl.AreEqualSchemes(x, scaled)
 		wantCode(t, "AreEqualSchemes", code, impl.ErrNone)
 		wantSame(t, fmt.Sprint("AreEqualSchemes of the scaled ", x), equal, true)
