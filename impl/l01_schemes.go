@@ -257,19 +257,19 @@ func countDifferent(f Form, g Form) int64 {
 	return count
 }
 
+// areNumbers reports whether a list has numbers modulo p alone.
+func areNumbers(p int64, list []int64) bool {
+	return !slices.ContainsFunc(list, func(number int64) bool { return !isIndex(number, p) })
+}
+
 // isMatrix reports whether rows are a matrix of a shape with numbers modulo p.
 func isMatrix(p int64, s shape, rows [][]int64) bool {
 	if int64(len(rows)) != s.rows {
 		return false
 	}
 	for _, row := range rows {
-		if int64(len(row)) != s.cols {
+		if int64(len(row)) != s.cols || !areNumbers(p, row) {
 			return false
-		}
-		for _, number := range row {
-			if !isIndex(number, p) {
-				return false
-			}
 		}
 	}
 	return true
@@ -359,12 +359,24 @@ func rowsOfForm(s shape, f Form) [][]int64 {
 	return rows
 }
 
-// rankOfForm returns the rank modulo p of the matrix of the numbers of a form.
-func rankOfForm(p int64, s shape, f Form) int64 {
-	rows := rowsOfForm(s, f)
+// residue is a type that numbers modulo p have: bytes in forms, integers in lists.
+type residue interface{ byte | int64 }
+
+// cutIntoRows returns a list as rows of cols numbers. They are parts of it, each without room behind
+// it, so that nothing that is put behind a row comes into the next one.
+func cutIntoRows[N residue](list []N, cols int64) [][]N {
+	var rows [][]N
+	for from := int64(0); from < int64(len(list)); from += cols {
+		rows = append(rows, list[from:from+cols:from+cols])
+	}
+	return rows
+}
+
+// rankOfRows returns the rank modulo p of rows of cols numbers, which it changes.
+func rankOfRows[N residue](p N, rows [][]N, cols int64) int64 {
 	rank := int64(0)
-	for col := range s.cols {
-		pivot := slices.IndexFunc(rows[rank:], func(row []int64) bool { return row[col] != 0 })
+	for col := range cols {
+		pivot := slices.IndexFunc(rows[rank:], func(row []N) bool { return row[col] != 0 })
 		if pivot < 0 {
 			continue
 		}
@@ -378,13 +390,18 @@ func rankOfForm(p int64, s shape, f Form) int64 {
 
 // clearColumn subtracts a row from others so that they have 0 in a column where the row has not.
 // It multiplies the others by the number of the row there, which spares a division modulo p.
-func clearColumn(p int64, row []int64, others [][]int64, col int64) {
+func clearColumn[N residue](p N, row []N, others [][]N, col int64) {
 	for _, other := range others {
 		factor := other[col]
 		for at, number := range row {
 			other[at] = (other[at]*row[col] + (p-factor)*number) % p
 		}
 	}
+}
+
+// rankOfForm returns the rank modulo p of the matrix of the numbers of a form.
+func rankOfForm(p int64, s shape, f Form) int64 {
+	return rankOfRows(byte(p), cutIntoRows(f[:s.places()], s.cols), s.cols)
 }
 
 // RanksOf returns, for each product in order, the list of the ranks of A, B and C, and ErrNone.
