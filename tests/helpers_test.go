@@ -3,8 +3,10 @@ package tests
 import (
 	"fmt"
 	"reflect"
+	"runtime"
 	"strings"
 	"testing"
+	"time"
 
 	"loop.example/g01262/impl"
 )
@@ -175,3 +177,15 @@ func isZero(v reflect.Value) bool {
 
 // pack makes the results of a call one value and a code.
 func pack[T any](result T, code int64) (any, int64) { return result, code }
+
+// wantGoroutines tests that there are no more goroutines than before some calls, after a wait.
+func wantGoroutines(t *testing.T, before int) {
+	t.Helper()
+	for range 100 {
+		if runtime.NumGoroutine() <= before {
+			return
+		}
+		time.Sleep(10 * time.Millisecond)
+	}
+	t.Fatalf("%d goroutines, and %d before the calls", runtime.NumGoroutine(), before)
+}

@@ -6,7 +6,6 @@ import (
 	"slices"
 	"strings"
 	"testing"
-	"time"
 
 	"loop.example/g01262/impl"
 )
@@ -149,13 +148,7 @@ func TestSearchesEnd(t *testing.T) {
 		sharedOf(t, listSet{"ones", 2, 4, constantLists(1, 3, 4)})
 		steps(t, strassen(3), true)
 	}
-	for range 100 {
-		if runtime.NumGoroutine() <= before {
-			return
-		}
-		time.Sleep(10 * time.Millisecond)
-	}
-	t.Fatalf("%d goroutines, and %d before the calls", runtime.NumGoroutine(), before)
+	wantGoroutines(t, before)
 }
 
 func TestProgramsValueByValue(t *testing.T) {
