@@ -87,31 +87,33 @@ func isForm(p int64, s shape, f Form) bool {
 	return true
 }
 
-// isProductFor reports whether q may be a product of x, which has a prime and sizes as a scheme has.
-func isProductFor(x Scheme, q Product) bool {
-	shapes := shapesOf(x)
+// isProduct reports whether q has forms for these shapes modulo p, none of them 0 everywhere.
+func isProduct(p int64, shapes [3]shape, q Product) bool {
 	for i, f := range factorsOf(q) {
-		if f == (Form{}) || !isForm(x.Prime, shapes[i], f) {
+		if f == (Form{}) || !isForm(p, shapes[i], f) {
 			return false
 		}
 	}
 	return true
 }
 
+// areProducts reports whether a list has at most MaxProducts products for these shapes modulo p.
+func areProducts(p int64, shapes [3]shape, products []Product) bool {
+	if len(products) > MaxProducts {
+		return false
+	}
+	return !slices.ContainsFunc(products, func(q Product) bool { return !isProduct(p, shapes, q) })
+}
+
+// isProductFor reports whether q may be a product of x, which has a prime and sizes as a scheme has.
+func isProductFor(x Scheme, q Product) bool { return isProduct(x.Prime, shapesOf(x), q) }
+
 // IsScheme reports whether x is a scheme.
 func IsScheme(x Scheme) bool {
 	if !isPrime(x.Prime) || !isSize(x.Rows) || !isSize(x.Inner) || !isSize(x.Cols) {
 		return false
 	}
-	if len(x.Products) > MaxProducts {
-		return false
-	}
-	for _, q := range x.Products {
-		if !isProductFor(x, q) {
-			return false
-		}
-	}
-	return true
+	return areProducts(x.Prime, shapesOf(x), x.Products)
 }
 
 // StandardScheme returns the standard scheme, and ErrNone. (ErrInvalid is not returned; ErrRange
@@ -148,17 +150,21 @@ func isEquation(x Scheme, a int64, b int64, c int64) bool {
 	return isIndex(a, shapes[0].places()) && isIndex(b, shapes[1].places()) && isIndex(c, shapes[2].places())
 }
 
-// leftSides returns the left sides of the equations of a and b, with that of c at the place c.
-func leftSides(x Scheme, a int64, b int64) Form {
-	var sides Form
-	for _, q := range x.Products {
+// sumsAt returns the form that has at each c the sum, over all products, of the numbers of A at a, of B
+// at b and of C at c, multiplied.
+func sumsAt(p int64, products []Product, a int64, b int64) Form {
+	var sums Form
+	for _, q := range products {
 		factor := int64(q.A[a]) * int64(q.B[b])
 		for c, number := range q.C {
-			sides[c] = byte((int64(sides[c]) + factor*int64(number)) % x.Prime)
+			sums[c] = byte((int64(sums[c]) + factor*int64(number)) % p)
 		}
 	}
-	return sides
+	return sums
 }
+
+// leftSides returns the left sides of the equations of a and b, with that of c at the place c.
+func leftSides(x Scheme, a int64, b int64) Form { return sumsAt(x.Prime, x.Products, a, b) }
 
 // rightSides returns the right sides of the equations of a and b, with that of c at the place c.
 func rightSides(x Scheme, a int64, b int64) Form {
@@ -257,8 +263,11 @@ func countDifferent(f Form, g Form) int64 {
 	return count
 }
 
-// areNumbers reports whether a list has numbers modulo p alone.
-func areNumbers(p int64, list []int64) bool {
+// isList reports whether a list has count elements, all of them numbers modulo p.
+func isList(p int64, count int64, list []int64) bool {
+	if int64(len(list)) != count {
+		return false
+	}
 	return !slices.ContainsFunc(list, func(number int64) bool { return !isIndex(number, p) })
 }
 
@@ -267,12 +276,7 @@ func isMatrix(p int64, s shape, rows [][]int64) bool {
 	if int64(len(rows)) != s.rows {
 		return false
 	}
-	for _, row := range rows {
-		if int64(len(row)) != s.cols || !areNumbers(p, row) {
-			return false
-		}
-	}
-	return true
+	return !slices.ContainsFunc(rows, func(row []int64) bool { return !isList(p, s.cols, row) })
 }
 
 // zeroMatrix returns a matrix with rows of their own memory.
