@@ -77,6 +77,9 @@ func isIndex(i int64, count int64) bool { return 0 <= i && i < count }
 
 func isSize(n int64) bool { return 1 <= n && n <= MaxSize }
 
+// areAllowed reports whether a scheme may be for these sizes.
+func (s sizes) areAllowed() bool { return isSize(s[0]) && isSize(s[1]) && isSize(s[2]) }
+
 func isForm(p int64, s shape, f Form) bool {
 	for place, number := range f {
 		inside := int64(place) < s.places()
@@ -87,10 +90,13 @@ func isForm(p int64, s shape, f Form) bool {
 	return true
 }
 
+// isFactor reports whether f is a form for this shape modulo p that is not 0 everywhere.
+func isFactor(p int64, s shape, f Form) bool { return f != (Form{}) && isForm(p, s, f) }
+
 // isProduct reports whether q has forms for these shapes modulo p, none of them 0 everywhere.
 func isProduct(p int64, shapes [3]shape, q Product) bool {
 	for i, f := range factorsOf(q) {
-		if f == (Form{}) || !isForm(p, shapes[i], f) {
+		if !isFactor(p, shapes[i], f) {
 			return false
 		}
 	}
@@ -110,7 +116,7 @@ func isProductFor(x Scheme, q Product) bool { return isProduct(x.Prime, shapesOf
 
 // IsScheme reports whether x is a scheme.
 func IsScheme(x Scheme) bool {
-	if !isPrime(x.Prime) || !isSize(x.Rows) || !isSize(x.Inner) || !isSize(x.Cols) {
+	if !isPrime(x.Prime) || !sizesOf(x).areAllowed() {
 		return false
 	}
 	return areProducts(x.Prime, shapesOf(x), x.Products)
